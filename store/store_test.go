@@ -799,6 +799,63 @@ func TestPackWithoutRoom(t *testing.T) {
 	file(t, d, "s", packed)
 }
 
+// That "n" is removed again is one of the disk's operations, be it there or not, in Pack and wherever Do packs: the power goes at each operation, and with one more than there are it does not.
+func TestPackWithoutRoomRemovesAgain(t *testing.T) {
+	pack := func(s *store.Store) api.Errno { return s.Pack() }
+	put := func(s *store.Store) api.Errno { return s.Do(nil, []string{"c"}) }
+	short := frame(rows("a", "1"))
+	tall := strings.Repeat(frame(rows("a", long(1000))), 4) // a Do packs it
+	added := frame(nil, "c")
+	down, full, ok := api.ErrDown, api.ErrFull, api.OK
+	for _, x := range []struct {
+		what string
+		log  string
+		free int
+		left bool // is there an "n" that a loss of power left?
+		call func(*store.Store) api.Errno
+		want []api.Errno // by the operation at which the power goes; the last one is that behind all
+	}{
+		{"Pack: Append n, Remove n", short, 0, false, pack, []api.Errno{down, full, full}},
+		{"Pack: Remove n, Append n, Remove n", short, 0, true, pack, []api.Errno{down, down, full, full}},
+		{"Do: Append s, Append n, Remove n", short, 0, false, put, []api.Errno{down, down, full, full}},
+		{"Do: Append s, Remove n, Append n, Remove n", short, 0, true, put, []api.Errno{down, down, down, full, full}},
+		{"Do: Append n, Remove n, Append s, Sync s", tall, len(added), false, put, []api.Errno{down, down, down, down, ok}},
+		{"Do: Remove n, Append n, Remove n, Append s, Sync s", tall, len(added), true, put, []api.Errno{down, down, down, down, down, ok}},
+		{"Do: Append n, Remove n, Append s, Append n, Remove n", tall, 0, false, put, []api.Errno{down, down, down, down, full, full}},
+	} {
+		for i, want := range x.want {
+			d := holding(t, len(x.log)+x.free, "s", x.log)
+			if x.left {
+				fine(t, d.Append("n", ""))
+			}
+			s := opened(t, d)
+			ahead := told(t, s)
+			fine(t, d.Arm(i+1))
+			what := fmt.Sprintf("%s; the power goes at %d", x.what, i+1)
+			is(t, what, x.call(s), want)
+			is(t, what+": Down", d.Down(), i+1 < len(x.want))
+			are(t, what+": rows", told(t, s), ahead...)
+			fine(t, d.Wake(nil))
+			are(t, what+": rows, opened anew", told(t, opened(t, d)), ahead...)
+		}
+	}
+}
+
+// A log that Open cannot lay anew is given up as it is: there "n" is not removed again.
+func TestOpenWithoutRoomRemovesNothingAgain(t *testing.T) {
+	good := frame(rows("a", "1"))
+	for _, left := range []int{0, 1} { // an "n" that a loss of power left is removed ahead
+		d := holding(t, 2*len(good), "s", good+"\x00")
+		if left == 1 {
+			fine(t, d.Append("n", ""))
+		}
+		fine(t, d.Arm(left+2))
+		openedNot(t, "no room", d, api.ErrFull)
+		is(t, "Down", d.Down(), false)
+		is(t, "the operation behind", d.Sync("s"), api.ErrDown)
+	}
+}
+
 func TestPackTakesAwayWhatIsLeft(t *testing.T) {
 	log, packed := frame(rows("a", "1"))+frame(nil, "z"), frame(rows("a", "1"))
 	for _, left := range []string{"", "x", packed, long(200)} {

@@ -50,6 +50,14 @@ func (p *plain) lay(frames string) api.Errno {
 	return p.disk.Rename("n", "s")
 }
 
+func (p *plain) pack() api.Errno {
+	e := p.lay(packedBy(p.rows))
+	if e == api.ErrFull {
+		p.disk.Remove("n")
+	}
+	return e
+}
+
 func (p *plain) do(puts []api.Row, dels []string) api.Errno {
 	count := len(puts) + len(dels)
 	keys := slices.Clone(dels)
@@ -66,13 +74,13 @@ func (p *plain) do(puts []api.Row, dels []string) api.Errno {
 		return api.OK
 	}
 	if s, _ := p.disk.Read("s"); len(s) > 1024+2*len(packedBy(p.rows)) {
-		if e := p.lay(packedBy(p.rows)); e != api.OK && e != api.ErrFull {
+		if e := p.pack(); e != api.OK && e != api.ErrFull {
 			return e
 		}
 	}
 	e := p.disk.Append("s", frame(puts, dels...))
 	if e == api.ErrFull {
-		if e = p.lay(packedBy(p.rows)); e != api.OK {
+		if e = p.pack(); e != api.OK {
 			return e
 		}
 		e = p.disk.Append("s", frame(puts, dels...))
@@ -172,7 +180,7 @@ func walk(t *testing.T, seed int) int {
 				behind = with(ahead, x.puts, x.dels)
 			}
 		case "pack":
-			got, want = s.Pack(), p.lay(packedBy(p.rows))
+			got, want = s.Pack(), p.pack()
 		case "arm":
 			got, want = d.Arm(x.number), p.disk.Arm(x.number)
 		}
